@@ -1,0 +1,1 @@
+"""Sounds of texts of signs."""
