@@ -1,15 +1,10 @@
 """Lexicons: the words of a lexicon's text, and the place where a text that is none is at fault."""
 
-LINE_END = 10
-FIRST_LETTER = 97
-LAST_LETTER = 122
+from signsounds.letters import LAST_LETTER, LINE_END, is_letter
+
 MOST_LETTERS = 32
 MOST_WORDS = 4096
 NO_FAULT = -1
-
-
-def is_letter(byte):
-    return FIRST_LETTER <= byte <= LAST_LETTER
 
 
 def last_word_from(begun):

@@ -4,6 +4,8 @@ import re
 
 LETTERS = "abcdefghijklmnopqrstuvwxyz"
 
+WRONG_TEXTS = ("", "a", "/", "a//", "A/", "a b/", "a/a/", "b/a/", "ab/a/", "a" * 33 + "/", "z" * 32 + "/z/", "a/b")
+
 
 def text(written):
     """The bytes of a text that's written with / for the byte 10."""

@@ -3,7 +3,7 @@
 import unittest
 
 from signsounds.sounds import word, words
-from tests.lexicons import LETTERS, lexicon_text, text, three_letter_words
+from tests.lexicons import LETTERS, WRONG_TEXTS, lexicon_text, text, three_letter_words
 
 LEXICONS = (
     ["a"],
@@ -15,8 +15,6 @@ LEXICONS = (
     ["a" * 32],
     ["a" * 31, "a" * 32, "b", "z" * 31 + "y", "z" * 32],
 )
-
-WRONG_TEXTS = ("", "a", "/", "a//", "A/", "a b/", "a/a/", "b/a/", "ab/a/", "a" * 33 + "/", "z" * 32 + "/z/", "a/b")
 
 
 class Answered(unittest.TestCase):
