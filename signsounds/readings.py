@@ -1,36 +1,89 @@
-"""Readings of a stretch, and what they cost."""
+"""Readings of a stretch: what they cost, and which one is told."""
 
 WORD_COST = 3
 # More than any reading costs: no text has places enough to come near it.
 NEVER = 1000000000000
+NO_END = 0
 
 
-def least_from(moves, going, ended):
-    """The least cost from one state on; going and ended as in costs_ahead."""
+class Rest:
+    """What readings cost behind a place: from each state if no word ends there, and if one does; NEVER: not at all."""
+
+    def __init__(self, going, ended):
+        self.going = going
+        self.ended = ended
+
+
+def rest_behind_last(steps):
+    # No reading goes on within a word behind the last place: a word has to end there.
+    return Rest([NEVER] * steps[-1].behind, 0)
+
+
+def least_from(moves, rest):
+    """The least cost from a state on that has these moves."""
     least = NEVER
     for move in moves:
-        rest = going[move.state]
-        if move.word is not None and WORD_COST + ended < rest:
-            rest = WORD_COST + ended
-        if move.cost + rest < least:
-            least = move.cost + rest
+        behind = rest.going[move.state]
+        if move.word is not None and WORD_COST + rest.ended < behind:
+            behind = WORD_COST + rest.ended
+        if move.cost + behind < least:
+            least = move.cost + behind
     return least
 
 
-def costs_ahead(step, going, ended):
-    """For each state ahead of a place the least cost from there on, NEVER where no reading goes on.
-
-    going is the same for the states behind the place, if no word ends there; ended is the cost behind an end.
-    """
-    return [least_from(step.moves[state], going, ended) for state in range(step.ahead)]
+def rest_ahead(step, rest):
+    """What readings cost ahead of a place, and so behind the one before it."""
+    costs = [least_from(step.moves[state], rest) for state in range(step.ahead)]
+    return Rest(costs, costs[0])
 
 
 def least_cost(steps):
     """The least cost of a stretch's readings; NEVER if there are none."""
-    # Behind the last place no reading goes on within a word: one has to end there.
-    going = [NEVER] * steps[-1].behind
-    ended = 0
+    rest = rest_behind_last(steps)
     for step in reversed(steps):
-        going = costs_ahead(step, going, ended)
-        ended = going[0]
-    return ended
+        rest = rest_ahead(step, rest)
+    return rest.ended
+
+
+def rests_behind(steps):
+    """For each place, in their order, what readings cost behind it."""
+    found = [rest_behind_last(steps)]
+    for step in reversed(steps[1:]):
+        found.append(rest_ahead(step, found[-1]))
+    return list(reversed(found))
+
+
+def told_move(moves, rest):
+    """A pair: the move that the told reading makes, and NO_END or one more than the number of the word that ends.
+
+    None if no reading goes on.
+    """
+    # Moves stand in the order of readings, and no end before an end: of those that cost the same the first stays.
+    least = NEVER
+    told = None
+    for move in moves:
+        if move.cost + rest.going[move.state] < least:
+            least = move.cost + rest.going[move.state]
+            told = (move, NO_END)
+        if move.word is not None and move.cost + WORD_COST + rest.ended < least:
+            least = move.cost + WORD_COST + rest.ended
+            told = (move, move.word + 1)
+    return told
+
+
+def told_row(steps):
+    """The row of the reading that's told; an empty one if there's no reading."""
+    row = []
+    state = 0
+    for step, rest in zip(steps, rests_behind(steps)):
+        told = told_move(step.moves[state], rest)
+        if told is None:
+            return []
+        row.extend([told[0].sign, told[0].sound, told[1]])
+        state = told[0].state if told[1] == NO_END else 0
+    return row
+
+
+def words_of_row(row, words):
+    """The words of a reading's row, one behind another."""
+    return [words[end - 1] for end in row[2::3] if end != NO_END]

@@ -1,9 +1,10 @@
 """The calls: each answers a list of whole numbers, a refusal as a number below 0."""
 
 from signsounds.arrangement import row_of
+from signsounds.letters import BLANK
 from signsounds.lexicon import NO_FAULT, fault_place, words_of
 from signsounds.possible import Possible
-from signsounds.readings import NEVER, least_cost
+from signsounds.readings import NEVER, least_cost, told_row, words_of_row
 from signsounds.signs import signs_of
 from signsounds.steps import steps_of
 from signsounds.stretch import Stretch
@@ -88,3 +89,30 @@ def cost(i, j, b, t, x):
     if least == NEVER:
         return [NONE_FOUND]
     return [least]
+
+
+def best(i, j, b, t, x):
+    """How many numbers the row of the reading of places i to j that's told has, and they."""
+    pair = asked(i, j, b, t, x)
+    if pair[0] != NOT_REFUSED:
+        return [pair[0]]
+    row = told_row(steps_of(pair[1]))
+    if len(row) == 0:
+        return [NONE_FOUND]
+    return [len(row)] + row
+
+
+def said(i, j, b, t, x):
+    """How many bytes the words of the reading of places i to j that's told have, a blank between, and they."""
+    pair = asked(i, j, b, t, x)
+    if pair[0] != NOT_REFUSED:
+        return [pair[0]]
+    row = told_row(steps_of(pair[1]))
+    if len(row) == 0:
+        return [NONE_FOUND]
+    found = []
+    for letters in words_of_row(row, pair[1].words):
+        if len(found) > 0:
+            found.append(BLANK)
+        found.extend(letters)
+    return [len(found)] + found

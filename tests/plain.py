@@ -251,3 +251,23 @@ def told_cost(i, j, b, t, x):
     if isinstance(found, int):
         return [found]
     return [min(cost for cost, row in found)] if found else [-5]
+
+
+def told_best(i, j, b, t, x):
+    found = told_readings(i, j, b, t, x)
+    if isinstance(found, int):
+        return [found]
+    if not found:
+        return [-5]
+    # They stand in their order, and min takes the first of the least.
+    row = min(found, key=lambda each: each[0])[1]
+    return [len(row)] + row
+
+
+def told_said(i, j, b, t, x):
+    row = told_best(i, j, b, t, x)
+    if row[0] < 0:
+        return row
+    words = x.split("\n")[:-1]
+    said = " ".join(words[end - 1] for end in row[3::3] if end)
+    return [len(said)] + list(said.encode())

@@ -3,11 +3,12 @@
 import itertools
 import unittest
 
-from signsounds.sounds import cost
+from signsounds.sounds import best, cost, said
 from tests.lexicons import lexicon_text, text, three_letter_words
 
 # Each call on a stretch, and the refusals it tells, in their order.
-CALLS = ((cost, (-2, -3, -6, -10, -9, -4, -8, -5)),)
+ALL = (-2, -3, -6, -10, -9, -4, -8, -5)
+CALLS = ((cost, ALL), (best, ALL), (said, ALL))
 
 LONG_TEXT = 65537
 RIGHT = {
