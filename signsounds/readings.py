@@ -1,9 +1,12 @@
-"""Readings of a stretch: what they cost, and which one is told."""
+"""Readings of a stretch: what they cost, which one is told, and how many there are."""
 
 WORD_COST = 3
 # More than any reading costs: no text has places enough to come near it.
 NEVER = 1000000000000
 NO_END = 0
+NUMBERS_OF_PLACE = 3
+# 2 to the 64th: how many readings there are is told modulo this.
+WAYS_MODULUS = 18446744073709551616
 
 
 class Rest:
@@ -86,4 +89,25 @@ def told_row(steps):
 
 def words_of_row(row, words):
     """The words of a reading's row, one behind another."""
-    return [words[end - 1] for end in row[2::3] if end != NO_END]
+    return [words[end - 1] for end in row[2::NUMBERS_OF_PLACE] if end != NO_END]
+
+
+def ways_from(moves, going, ended):
+    """How many readings go on from a state that has these moves; going and ended are how many do behind the place."""
+    total = 0
+    for move in moves:
+        behind = going[move.state]
+        if move.word is not None:
+            behind = behind + ended
+        total = total + move.ways * behind
+    return total % WAYS_MODULUS
+
+
+def ways_of(steps):
+    """How many readings a stretch has, modulo 2 to the 64th."""
+    going = [0] * steps[-1].behind
+    ended = 1
+    for step in reversed(steps):
+        going = [ways_from(step.moves[state], going, ended) for state in range(step.ahead)]
+        ended = going[0]
+    return ended

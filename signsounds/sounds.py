@@ -4,13 +4,15 @@ from signsounds.arrangement import row_of
 from signsounds.letters import BLANK
 from signsounds.lexicon import NO_FAULT, fault_place, words_of
 from signsounds.possible import Possible
-from signsounds.readings import NEVER, least_cost, told_row, words_of_row
+from signsounds.readings import NEVER, least_cost, told_row, ways_of, words_of_row
+from signsounds.rows import cost_of_row
 from signsounds.signs import signs_of
 from signsounds.steps import steps_of
 from signsounds.stretch import Stretch
 
 MOST_LIST_BYTES = 1048576
 MOST_TEXT_BYTES = 65536
+MOST_ROW_NUMBERS = 65536
 
 NOT_REFUSED = 0
 TOO_LONG = -2
@@ -116,3 +118,24 @@ def said(i, j, b, t, x):
             found.append(BLANK)
         found.extend(letters)
     return [len(found)] + found
+
+
+def check(i, j, b, t, x, r):
+    """The cost of the reading of places i to j whose row r is."""
+    if len(r) > MOST_ROW_NUMBERS:
+        return [TOO_LONG]
+    pair = asked(i, j, b, t, x)
+    if pair[0] != NOT_REFUSED:
+        return [pair[0]]
+    found = cost_of_row(r, pair[1])
+    if found == NEVER:
+        return [NONE_FOUND]
+    return [found]
+
+
+def ways(i, j, b, t, x):
+    """0, and how many readings of places i to j there are, modulo 2 to the 64th."""
+    pair = asked(i, j, b, t, x)
+    if pair[0] != NOT_REFUSED:
+        return [pair[0]]
+    return [NOT_REFUSED, ways_of(steps_of(pair[1]))]

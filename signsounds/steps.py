@@ -8,12 +8,13 @@ COST_OF_SIGN_BEFORE = 2
 
 
 class Offer:
-    """Of all ways to say the same letters at a place the cheapest, of those that cost as little the first."""
+    """Of all ways to say the same letters at a place the cheapest, of those that cost as little the first; how many."""
 
     def __init__(self, cost, sign, sound):
         self.cost = cost
         self.sign = sign
         self.sound = sound
+        self.ways = 1
 
 
 class Move:
@@ -23,6 +24,7 @@ class Move:
         self.cost = offer.cost
         self.sign = offer.sign
         self.sound = offer.sound
+        self.ways = offer.ways
         self.state = state
         self.word = word
 
@@ -37,9 +39,14 @@ class Step:
 
 
 def offer_added(offers, letters, offer):
-    # Offers come in the order of readings: of those that cost the same the first stays.
-    if letters not in offers or offer.cost < offers[letters].cost:
-        offers[letters] = offer
+    if letters in offers:
+        known = offers[letters]
+        offer.ways = known.ways + 1
+        # Offers come in the order of readings: of those that cost the same the first stays.
+        if known.cost <= offer.cost:
+            known.ways = offer.ways
+            return
+    offers[letters] = offer
 
 
 def offers_of(numbers, signs):

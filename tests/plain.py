@@ -271,3 +271,16 @@ def told_said(i, j, b, t, x):
     words = x.split("\n")[:-1]
     said = " ".join(words[end - 1] for end in row[3::3] if end)
     return [len(said)] + list(said.encode())
+
+
+def told_check(i, j, b, t, x, r):
+    found = told_readings(i, j, b, t, x)
+    if isinstance(found, int):
+        return [found]
+    costs = [cost for cost, row in found if row == r]
+    return costs if costs else [-5]
+
+
+def told_ways(i, j, b, t, x):
+    found = told_readings(i, j, b, t, x)
+    return [found] if isinstance(found, int) else [0, len(found)]

@@ -3,12 +3,12 @@
 import itertools
 import unittest
 
-from signsounds.sounds import best, cost, said
+from signsounds.sounds import best, check, cost, said, ways
 from tests.lexicons import lexicon_text, text, three_letter_words
 
 # Each call on a stretch, and the refusals it tells, in their order.
 ALL = (-2, -3, -6, -10, -9, -4, -8, -5)
-CALLS = ((cost, ALL), (best, ALL), (said, ALL))
+CALLS = ((cost, ALL), (best, ALL), (said, ALL), (check, ALL), (ways, ALL[:-1]))
 
 LONG_TEXT = 65537
 RIGHT = {
@@ -17,6 +17,7 @@ RIGHT = {
     "b": text("sign A1 a ba/##./#.#/sign A2/#/"),
     "t": text("A1 A2 A1/"),
     "x": text("a/aba/ba/"),
+    "r": [0, 0, 0, 1, 8, 0, 0, 1, 2],
 }
 
 # For each refusal some ways to bring it about; two of them by different arguments bring about both.
@@ -25,6 +26,7 @@ FAULTS = {
         {"b": [0] * 1048577},
         {"t": [0] * LONG_TEXT},
         {"x": [0] * LONG_TEXT},
+        {"r": [0] * 65537},
         {"t": text("A1 " * 21845 + "A1/")[-LONG_TEXT:]},
         {"x": lexicon_text([each + "a" * 12 for each in three_letter_words(4096)])[:-1] + [97, 10]},
     ),
@@ -55,23 +57,28 @@ FAULTS = {
         {"b": text("sign A1 ab/##./#.#/sign A2 bb/#/")},
         {"t": text("A2 A2 A2/")},
         {"t": text("A1 A2 _1%1234/"), "b": text("sign A1 a/##/sign A2/##/")},
+        {"r": []},
+        {"r": [0, 0, 0, 1, 8, 0, 0, 1, 1]},
+        {"r": [4294967295] * 9},
+        {"r": [0, 0, 1] * 21845},
     ),
 }
 
 
 def answer(call, arguments):
-    return call(**arguments)
+    """What the call answers: check alone is handed a row."""
+    return call(**{name: value for name, value in arguments.items() if name != "r" or call is check})
 
 
 class RefusalCase(unittest.TestCase):
     def tells(self, changes, code):
         """Each call refuses the right arguments so changed with this code, where it has that refusal."""
+        given = {**RIGHT, **changes}
+        before = {name: value if isinstance(value, int) else list(value) for name, value in given.items()}
         for call, codes in CALLS:
-            given = {**RIGHT, **changes}
-            before = {name: value if isinstance(value, int) else list(value) for name, value in given.items()}
-            if code in codes:
+            if code in codes and (call is check or "r" not in changes):
                 self.assertEqual(answer(call, given), [code], self.shown(call, changes))
-                self.assertEqual(given, before)
+        self.assertEqual(given, before)
 
     def shown(self, call, changes):
         return call.__name__, {name: str(value)[:80] for name, value in changes.items()}
@@ -93,9 +100,15 @@ class OneAlone(RefusalCase):
         self.tells({"b": [0] * 1048576}, -3)
         self.tells({"t": [0] * 65536}, -6)
         self.tells({"x": [0] * 65536}, -10)
+        self.tells({"r": [0] * 65536}, -5)
         long = text("A1/" * 511) + text("A1 " * 64)[:-1] + [10]
         for call, codes in CALLS:
-            self.assertGreaterEqual(answer(call, {**RIGHT, "t": long, "j": 0})[0], 0)
+            self.assertGreaterEqual(answer(call, {**RIGHT, "t": long, "j": 0, "r": [0, 0, 1]})[0], 0)
+
+    def test_where_there_is_no_reading_ways_answers_none(self):
+        for changes in FAULTS[-5]:
+            if "r" not in changes:
+                self.assertEqual(answer(ways, {**RIGHT, **changes}), [0, 0])
 
 
 class TwoAtATime(RefusalCase):
@@ -127,6 +140,8 @@ class TwoAtATime(RefusalCase):
     def test_all_at_once(self):
         changes = {"i": 9, "j": 8, "b": [0] * 1048577, "t": [0] * LONG_TEXT, "x": [0] * LONG_TEXT}
         self.tells(changes, -2)
+        self.tells({**changes, "r": [0] * 65537}, -2)
+        self.tells({"i": 9, "j": 8, "b": [], "t": [], "x": [], "r": [0] * 65537}, -2)
         self.tells({**changes, "b": []}, -2)
         self.tells({**changes, "b": [], "t": []}, -2)
         self.tells({**changes, "b": [], "t": [], "x": []}, -3)
@@ -143,7 +158,7 @@ class Places(RefusalCase):
         for i, j in itertools.product(range(6), repeat=2):
             changes = {"i": i, "j": j, "t": text("A1 A1 _1 A1 _2%1 A1/"), "x": text("a/")}
             if i <= j < 4:
-                self.assertEqual(cost(**{**RIGHT, **changes}), [3 * (j - i + 1)])
+                self.assertEqual(answer(cost, {**RIGHT, **changes}), [3 * (j - i + 1)])
             else:
                 self.tells(changes, -4)
 
