@@ -8,7 +8,7 @@ COST_OF_SIGN_BEFORE = 2
 
 
 class Offer:
-    """Of all ways to say the same letters at a place the cheapest, of those that cost as little the first; how many."""
+    """The ways to say the same letters at a place: how many there are, and of the cheapest the first."""
 
     def __init__(self, cost, sign, sound):
         self.cost = cost
@@ -113,9 +113,11 @@ def steps_of(stretch):
         if numbers not in offers:
             offers[numbers] = offers_of(numbers, stretch.signs)
             moves[numbers] = []
+        # Places that may have been the same signs share their moves: only from new states they're still to be found.
+        shared = moves[numbers]
+        done = len(shared)
         ahead = len(states.nodes)
-        # Places that may have been the same signs share their moves: only new states are gone out from.
-        for state in range(len(moves[numbers]), ahead):
-            moves[numbers].append(states.moves_from(state, offers[numbers]))
-        found.append(Step(moves[numbers], ahead, len(states.nodes)))
+        for state in range(done, ahead):
+            shared.append(states.moves_from(state, offers[numbers]))
+        found.append(Step(shared, ahead, len(states.nodes)))
     return found

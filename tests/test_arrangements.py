@@ -152,6 +152,7 @@ class Limits(ArrangementCase):
             self.wrong(tie.join(["A1"] * 65) + "/", tie.join(["_1"] * 65) + "/")
             self.wrong(tie.join(["_1", "A1"] * 32 + ["_1"]) + "/")
             self.wrong(tie.join(["A1"] * 66) + "/", tie.join(["A1"] * 20000) + "/")
+            self.wrong(tie.join(["A1"] * 64) + tie + "/", tie.join(["A1"] * 64) + tie + " A1/")
 
     def test_64_pieces_in_nests_and_parentheses(self):
         self.right("A1[" + ";".join(["nA1"] * 63) + "]/", "A1[n" * 63 + "A1" + "]" * 63 + "/")
@@ -159,6 +160,10 @@ class Limits(ArrangementCase):
         self.wrong("A1[" + ";".join(["n_1"] * 64) + "]/")
         self.right("(A1:A1)*" * 31 + "A1*A1/", "A1[nA1:A1]*" * 21 + "A1/", "A1[nA1]:" * 31 + "A1:_1/")
         self.wrong("(A1:A1)*" * 31 + "A1*A1*A1/", "A1[nA1:A1]*" * 21 + "A1*A1/", "A1[nA1]:" * 31 + "A1:_1:A1/")
+
+    def test_64_pieces_and_no_end(self):
+        self.wrong("A1[n" * 64 + "/", "A1[n" * 64 + " A1/", "<" + "A1[n" * 64 + ">/", "(A1:" * 64 + "/")
+        self.wrong("(A1:" * 63 + "A1/")
 
     def test_parentheses_as_deep_as_can_be(self):
         deep = "A1:A1"

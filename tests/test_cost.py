@@ -224,9 +224,9 @@ class ManyPlaces(CostCase):
         x = lexicon_text(three_letter_words(4096))
         t = text(" ".join(["A1?"] * 40) + "/")
         self.assertLessEqual(len(b), 100000)
-        # aa and a: the first sign's first sound, and the first of the single letters, the sign's 84th, its number 4.
+        # aa is sound 0 of the sign of number 0; a, the 676th of the sounds, is sound 4 of the sign of number 84.
         self.assertEqual(cost(0, 1, text(b), t, text("aaa/")), [0 + 2 * 84 + 4 + 3])
-        self.assertEqual(cost(0, 39, text(b), t, x)[0] > 0, True)
+        self.assertGreater(cost(0, 39, text(b), t, x)[0], 0)
         self.assertEqual(cost(0, 39, text(b), text(" ".join(["_32%1234"] * 40) + "/"), x), cost(0, 39, text(b), t, x))
 
     def test_words_of_32_letters(self):
